@@ -1,0 +1,1 @@
+"""Samebook: things told equal or unlike, with reasons and worlds."""
