@@ -1,4 +1,4 @@
-"""The rows of the language that can be seen in the package's files, each told by its number."""
+"""Some of the rows of the language, not all, looked for in the package's files; faults bear the row's number."""
 
 import ast
 import builtins
