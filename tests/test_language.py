@@ -161,6 +161,83 @@ def faults_of(text, methods):
     return faults
 
 
+WALKED = ("zip", "enumerate", "reversed", "range")
+VIEWS = ("items", "keys", "values")
+WALKERS = ("list", "tuple", "dict", "sorted", "sum", "any", "all", "enumerate", "zip", "min", "max")
+FREE_METHODS = METHODS + ["add", "discard"]
+FREE_VALUES = "count index title find get join lower upper split strip copy add".split()
+PYTHONS_OWN = [name for kind in (str, int, list, dict, set, bytes, tuple) for name in dir(kind)]
+
+
+def walks_on_the_spot(node):
+    """The nodes within this one that are walked where they stand."""
+    if isinstance(node, (ast.For, ast.comprehension)):
+        return [node.iter]
+    if isinstance(node, ast.Call) and isinstance(node.func, ast.Name) and node.func.id in WALKERS:
+        return node.args[:1]
+    if isinstance(node, ast.Call) and isinstance(node.func, ast.Attribute) and node.func.attr == "join":
+        return node.args
+    return []
+
+
+def walk_faults(tree):
+    fine = [id(inner) for node in ast.walk(tree) for inner in walks_on_the_spot(node)]
+    faults = []
+    for node in ast.walk(tree):
+        if isinstance(node, ast.Call) and id(node) not in fine:
+            name = getattr(node.func, "id", getattr(node.func, "attr", ""))
+            if name in (WALKED if isinstance(node.func, ast.Name) else VIEWS):
+                faults.append("L23 " + name)
+    return faults
+
+
+def own_values(trees):
+    found = []
+    for tree in trees:
+        for node in ast.walk(tree):
+            if isinstance(node, ast.Attribute) and isinstance(node.ctx, ast.Store):
+                found.append(node.attr)
+    return found
+
+
+def object_faults(trees):
+    methods = own_methods(trees)
+    values = own_values(trees)
+    faults = ["L18 " + name for name in methods if name in values]
+    faults += ["L26 " + name for name in values if name in PYTHONS_OWN and name not in FREE_VALUES]
+    faults += ["L26 " + name for name in methods if name in PYTHONS_OWN and name not in FREE_METHODS + DUNDERS]
+    return faults
+
+
+def drawn_from(tree):
+    return [node.module for node in tree.body if isinstance(node, ast.ImportFrom)]
+
+
+def circle_faults(trees):
+    """Files that draw from one another; `trees` is a dict by the names that imports use."""
+    faults = []
+    for start in trees:
+        reached = []
+        waiting = drawn_from(trees[start])
+        while waiting:
+            module = waiting.pop()
+            if module in trees and module not in reached:
+                reached.append(module)
+                waiting += drawn_from(trees[module])
+        if start in reached:
+            faults.append("L16 " + start)
+    return faults
+
+
+def shadow_faults(tree):
+    """Parameters and locals that are called like a class or an import of their file."""
+    taken = [node.name for node in tree.body if isinstance(node, ast.ClassDef)]
+    taken += [alias.name for node in tree.body if isinstance(node, ast.ImportFrom) for alias in node.names]
+    bound = [node.arg for node in ast.walk(tree) if isinstance(node, ast.arg)]
+    bound += [node.id for node in ast.walk(tree) if isinstance(node, ast.Name) and isinstance(node.ctx, ast.Store)]
+    return ["L15 " + name for name in bound if name in taken]
+
+
 class Language(unittest.TestCase):
     def test_only_plain_files(self):
         names = [path.name for path in PACKAGE.iterdir() if path.name != "__pycache__"]
@@ -174,6 +251,14 @@ class Language(unittest.TestCase):
         for name, text in sorted(texts.items()):
             with self.subTest(file=name):
                 self.assertEqual(faults_of(text, methods), [])
+
+    def test_the_package_as_a_whole(self):
+        trees = {"samebook." + path.stem: ast.parse(path.read_text("utf-8")) for path in PACKAGE.glob("*.py")}
+        self.assertEqual(circle_faults(trees), [])
+        self.assertEqual(object_faults(list(trees.values())), [])
+        for name, tree in sorted(trees.items()):
+            with self.subTest(file=name):
+                self.assertEqual(walk_faults(tree) + shadow_faults(tree), [])
 
     def test_names_are_drawn_from_the_file_that_defines_them(self):
         for path in PACKAGE.glob("*.py"):
@@ -206,6 +291,20 @@ class Language(unittest.TestCase):
         ]:
             with self.subTest(text=text):
                 self.assertTrue(any(fault.split()[0] == row or row in fault for fault in faults_of(text, [])))
+
+    def test_faults_over_several_lines_are_seen(self):
+        method = "class C:\n    def %s(self):\n        self.%s = 1\n"
+        self.assertEqual(object_faults([ast.parse(method % ("do", "done"))]), [])
+        self.assertEqual(object_faults([ast.parse(method % ("do", "do"))]), ["L18 do"])
+        self.assertEqual(object_faults([ast.parse(method % ("do", "items"))]), ["L26 items"])
+        self.assertEqual(object_faults([ast.parse(method % ("union", "done"))]), ["L26 union"])
+        self.assertEqual(walk_faults(ast.parse("xs = list(reversed(ys))\nfor x in zip(xs, ys):\n    pass\n")), [])
+        self.assertEqual(walk_faults(ast.parse("xs = reversed(ys)\n")), ["L23 reversed"])
+        self.assertEqual(walk_faults(ast.parse("for x in reversed(range(3)):\n    pass\n")), ["L23 range"])
+        self.assertEqual(walk_faults(ast.parse("xs = d.values()\n")), ["L23 values"])
+        self.assertEqual(shadow_faults(ast.parse("from a.b import c\ndef f(c):\n    return c\n")), ["L15 c"])
+        circle = {"a.b": ast.parse("from a.c import x\n"), "a.c": ast.parse("from a.b import y\n")}
+        self.assertEqual(circle_faults(circle), ["L16 a.b", "L16 a.c"])
 
 
 if __name__ == "__main__":
